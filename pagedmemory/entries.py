@@ -1,6 +1,6 @@
 """Addresses, and the bits of a table's entries."""
 
-from pagedmemory.frames import FRAME_SIZE, WORD_SIZE
+from pagedmemory.frames import FRAME_SIZE, WORD_SIZE, WORDS_IN_FRAME
 
 THERE = 1
 WRITABLE = 2
@@ -8,11 +8,11 @@ USERS = 4
 USED = 32
 WRITTEN = 64
 BIG = 128
+COPIED_WHEN_WRITTEN = 512
 NOT_EXECUTED = 0x8000000000000000
 BEGINNING = 0x000FFFFFFFFFF000
 
 LEVELS = (4, 3, 2, 1)
-ENTRY_COUNT = 512
 
 
 # Bits 47 to 63 are alike: all 0 or all 1.
@@ -30,7 +30,7 @@ def span_of_level(level):
 
 
 def entry_place(table, level, addr):
-    entry_number = (addr // span_of_level(level)) % ENTRY_COUNT
+    entry_number = (addr // span_of_level(level)) % WORDS_IN_FRAME
     return table + entry_number * WORD_SIZE
 
 
@@ -40,3 +40,20 @@ def is_there(entry):
 
 def key_of(entry):
     return (entry >> 59) & 15
+
+
+def frame_led_to(entry):
+    return (entry & BEGINNING) // FRAME_SIZE
+
+
+def leading_to(frame, entry):
+    return entry & ~BEGINNING | frame * FRAME_SIZE
+
+
+# To be copied when it's written, in place of being written.
+def kept_from_writing(entry):
+    return entry & ~WRITABLE | COPIED_WHEN_WRITTEN
+
+
+def let_be_written(entry):
+    return entry & ~COPIED_WHEN_WRITTEN | WRITABLE

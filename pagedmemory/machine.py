@@ -3,7 +3,8 @@
 from pagedmemory.frames import Memory
 from pagedmemory.lookup import look
 from pagedmemory.moving import read, write
-from pagedmemory.trees import give, new
+from pagedmemory.pages import give, new, share, take_back, touch
+from pagedmemory.trees import copy_tree, drop_tree
 
 TELL = 0
 LOOK = 1
@@ -11,6 +12,11 @@ READ = 2
 WRITE = 3
 NEW = 4
 GIVE = 5
+SHARE = 6
+BACK = 7
+COPY = 8
+TOUCH = 9
+DROP = 10
 LAY = 11
 
 
@@ -68,6 +74,16 @@ def answer_call(memory, reader):
         return [new(memory)]
     if number == GIVE:
         return answer_give(memory, reader)
+    if number == SHARE:
+        return answer_share(memory, reader)
+    if number == BACK:
+        return answer_back(memory, reader)
+    if number == COPY:
+        return [copy_tree(memory, reader.take_number())]
+    if number == TOUCH:
+        return answer_touch(memory, reader)
+    if number == DROP:
+        return [drop_tree(memory, reader.take_number())]
     raise UnknownCall(f"no call has the number {number}")
 
 
@@ -116,3 +132,23 @@ def answer_give(memory, reader):
     addr = reader.take_number()
     flags = reader.take_number()
     return [give(memory, root, addr, flags)]
+
+
+def answer_share(memory, reader):
+    root = reader.take_number()
+    addr = reader.take_number()
+    frame = reader.take_number()
+    flags = reader.take_number()
+    return [share(memory, root, addr, frame, flags)]
+
+
+def answer_back(memory, reader):
+    root = reader.take_number()
+    addr = reader.take_number()
+    return [take_back(memory, root, addr)]
+
+
+def answer_touch(memory, reader):
+    root = reader.take_number()
+    addr = reader.take_number()
+    return [touch(memory, root, addr)]

@@ -1,66 +1,69 @@
-"""The kernel: frames and pages that it gives to the trees of programs."""
+"""The kernel: whole trees, copied and dropped."""
 
-from pagedmemory.entries import BEGINNING, LEVELS, NOT_EXECUTED, THERE, USERS, WRITABLE
-from pagedmemory.entries import entry_place, is_of_page, is_there
-from pagedmemory.frames import FRAME_SIZE, REFUSED, TOO_FEW_FRAMES, UNFIT_PAGE
-
-MOST_FLAGS = 7
-TO_BE_WRITTEN = 1
-FOR_THE_USER = 2
-NOT_TO_BE_EXECUTED = 4
+from pagedmemory.entries import LEVELS, WRITABLE, frame_led_to, kept_from_writing, leading_to
+from pagedmemory.frames import DONE, FRAME_SIZE, MOST_USES, TOO_FEW_FRAMES
 
 
-def new(memory):
-    if memory.free_frame_count() == 0:
+# The frames of a tree: its tables, the root among them, and its pages, each as often as an entry leads to it.
+class Tree:
+    def __init__(self, memory, root):
+        self.tables = []
+        frames = [root]
+        for level in LEVELS:
+            self.tables.extend(frames)
+            frames = frames_below(memory, frames)
+        self.pages = frames
+
+
+# In a sound tree an entry that isn't 0 is there.
+def frames_below(memory, tables):
+    frames = []
+    for table in tables:
+        frames.extend([frame_led_to(memory.word_at(place)) for place in memory.filled_places(table)])
+    return frames
+
+
+def copy_tree(memory, root):
+    # All that can refuse is asked ahead, so nothing has to be undone.
+    if not can_be_copied(memory, Tree(memory, root)):
         return TOO_FEW_FRAMES
-    return memory.take_frame()
+    return copy_table(memory, root, LEVELS[0])
 
 
-def give(memory, root, addr, flags):
-    if not is_of_page(addr) or flags > MOST_FLAGS:
-        return REFUSED
-    places = places_on_way(memory, root, addr)
-    if is_there(memory.word_at(places[-1])):
-        return UNFIT_PAGE
-    missing_tables = len(LEVELS) - len(places)
-    if memory.free_frame_count() < missing_tables + 1:
-        return TOO_FEW_FRAMES
-    place = build_tables(memory, places, addr)
-    frame = memory.take_frame()
-    memory.put_word(place, page_entry(frame, flags))
-    return frame
+def can_be_copied(memory, tree):
+    uses = list(memory.counts)
+    for page in tree.pages:
+        uses[page] += 1
+    return len(tree.tables) <= memory.free_frame_count() and max(uses) <= MOST_USES
 
 
-# Where the entries for addr stand, from the root on, up to that of level 1 or to the first that isn't there.
-def places_on_way(memory, root, addr):
-    places = []
-    table = root * FRAME_SIZE
-    for level in LEVELS:
-        place = entry_place(table, level, addr)
-        places.append(place)
-        entry = memory.word_at(place)
-        if not is_there(entry):
-            break
-        table = entry & BEGINNING
-    return places
+# Calls itself for the tables below, so three calls deep at most: a table is copied whole before the next entry.
+def copy_table(memory, table, level):
+    twin = memory.take_frame()
+    for place in memory.filled_places(table):
+        if level == LEVELS[-1]:
+            entry = share_page(memory, place)
+        else:
+            entry = memory.word_at(place)
+            entry = leading_to(copy_table(memory, frame_led_to(entry), level - 1), entry)
+        memory.put_word(twin * FRAME_SIZE + place % FRAME_SIZE, entry)
+    return twin
 
 
-# Takes the tables that are missing behind the last of these places, and tells where the entry of level 1 stands.
-def build_tables(memory, places, addr):
-    place = places[-1]
-    for level in LEVELS[len(places):]:
-        table = memory.take_frame() * FRAME_SIZE
-        memory.put_word(place, table | THERE | WRITABLE | USERS)
-        place = entry_place(table, level, addr)
-    return place
-
-
-def page_entry(frame, flags):
-    entry = frame * FRAME_SIZE | THERE
-    if flags & TO_BE_WRITTEN != 0:
-        entry = entry | WRITABLE
-    if flags & FOR_THE_USER != 0:
-        entry = entry | USERS
-    if flags & NOT_TO_BE_EXECUTED != 0:
-        entry = entry | NOT_EXECUTED
+# Readies the entry at this place to stand in two trees, and tells it.
+def share_page(memory, place):
+    entry = memory.word_at(place)
+    memory.use_once_more(frame_led_to(entry))
+    if entry & WRITABLE != 0:
+        entry = kept_from_writing(entry)
+        memory.put_word(place, entry)
     return entry
+
+
+def drop_tree(memory, root):
+    tree = Tree(memory, root)
+    for table in tree.tables:
+        memory.set_free(table)
+    for page in tree.pages:
+        memory.use_once_less(page)
+    return DONE

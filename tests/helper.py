@@ -16,6 +16,7 @@ USERS = 4
 USED = 32
 WRITTEN = 64
 BIG = 128
+COPIED = 1 << 9
 NX = 1 << 63
 TO_TABLE = THERE | WRITABLE | USERS
 
@@ -48,6 +49,26 @@ def new():
 
 def give(root, addr, flags):
     return [5, root, addr, flags]
+
+
+def share(root, addr, frame, flags):
+    return [6, root, addr, frame, flags]
+
+
+def back(root, addr):
+    return [7, root, addr]
+
+
+def copy(root):
+    return [8, root]
+
+
+def touch(root, addr):
+    return [9, root, addr]
+
+
+def drop(root):
+    return [10, root]
 
 
 def lay(memory, counts):
@@ -92,3 +113,46 @@ def way(numbers, last, big_level=1, tables=(1, 2, 3, 4), bits=TO_TABLE):
     k = 4 - big_level
     entries.append((tables[k] * 4096 + numbers[k] * 8, last))
     return dict(entries), [place for place, _ in entries]
+
+
+def at(frame, number=0):
+    """Where a frame's entry of this number stands."""
+    return frame * 4096 + number * 8
+
+
+def frame_places(frame):
+    return list(range(frame * 4096, frame * 4096 + 4096, 8))
+
+
+def uses(counts):
+    """Frames and counts as tell answers them."""
+    return [number for frame in sorted(counts) if counts[frame] for number in (frame, counts[frame])]
+
+
+def all_but(free):
+    return {frame: 3 for frame in range(256) if frame not in free}
+
+
+def frames_in_question(memory, counts):
+    """The frames that are laid or used, and the ten that would be taken first."""
+    free = [frame for frame in range(256) if counts.get(frame, 0) == 0]
+    return sorted({place // 4096 for place in memory} | set(counts) | set(free[:10]))
+
+
+def words_behind(memory, counts, calls, frames=None):
+    """The words that aren't 0 in these frames when the calls are done, by their places."""
+    if frames is None:
+        frames = frames_in_question(memory, counts)
+    places = [place for frame in frames for place in frame_places(frame)]
+    found = {}
+    for first in range(0, len(places), 1000):
+        some = places[first:first + 1000]
+        found.update(zip(some, run(memory, counts, calls, some)[-1]))
+    return {place: word for place, word in found.items() if word != 0}
+
+
+def check_unchanged(test, memory, counts, calls, answers_expected):
+    """The calls answer so, and leave all words and counts as they were laid."""
+    told = run(memory, counts, calls)
+    test.assertEqual(told, [*[[number] for number in answers_expected], uses(counts)])
+    test.assertEqual(words_behind(memory, counts, calls), memory)

@@ -160,6 +160,39 @@ class Language(unittest.TestCase):
             called = {node.func.attr for node in nodes_of(tree, ast.Call) if isinstance(node.func, ast.Attribute)}
             self.assertLessEqual(called, METHODS_OF_PYTHON | own_methods)
 
+    def test_comprehensions_texts_and_keywords(self):
+        for tree in self.trees.values():
+            for node in nodes_of(tree, ast.ListComp):
+                self.assertEqual(len(node.generators), 1)
+                self.assertLessEqual(len(node.generators[0].ifs), 1)
+            for node in nodes_of(tree, ast.FormattedValue):
+                self.assertIsInstance(node.value, ast.Name)
+            for node in nodes_of(tree, ast.Constant):
+                self.assertNotIn("%", str(node.value))
+            allowed = {"key", "reverse", "default", "start", "strict"}
+            self.assertLessEqual({node.arg for node in nodes_of(tree, ast.keyword)}, allowed)
+
+    def test_what_a_loop_walks_is_not_changed_in_it(self):
+        changing = {"append", "clear", "extend", "insert", "pop", "remove", "reverse", "setdefault", "update"}
+        for tree in self.trees.values():
+            for loop in nodes_of(tree, ast.For):
+                walked = ast.unparse(loop.iter)
+                for node in nodes_of(loop, ast.Call):
+                    if isinstance(node.func, ast.Attribute) and node.func.attr in changing:
+                        self.assertNotIn(ast.unparse(node.func.value), walked)
+                for node in nodes_of(loop, ast.Subscript):
+                    if isinstance(node.ctx, ast.Store):
+                        self.assertNotIn(ast.unparse(node.value), walked)
+
+    def test_lists_and_dicts_of_a_files_top_stay_as_they_are(self):
+        for tree in self.trees.values():
+            kept = {row.targets[0].id for row in tree.body
+                    if isinstance(row, ast.Assign) and isinstance(row.value, (ast.List, ast.Dict))}
+            for node in nodes_of(tree, ast.Subscript):
+                self.assertFalse(isinstance(node.ctx, ast.Store) and ast.unparse(node.value) in kept)
+            called = {ast.unparse(node.func) for node in nodes_of(tree, ast.Call)}
+            self.assertEqual({name for name in called if name.split(".")[0] in kept and not name.endswith(".get")}, set())
+
     def test_powers_and_identity(self):
         for tree in self.trees.values():
             for node in nodes_of(tree, ast.BinOp):

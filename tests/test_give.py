@@ -4,23 +4,11 @@ import unittest
 
 from tests.helper import (
     MEMORY_SIZE, NX, NX_KNOWN, PROTECT, READ, THERE, TO_TABLE, TOP, USED, USER, USERS, WRITABLE, WRITE, WRITTEN,
-    address, give, look, new, read, run, way, write,
+    address, all_but, frame_places, give, look, new, read, run, uses, way, write,
 )
 
 NUMBERS = (300, 6, 7, 8)
 WHOLE_FRAME = 512
-
-
-def frame_places(frame):
-    return list(range(frame * 4096, frame * 4096 + 4096, 8))
-
-
-def uses(counts):
-    return [number for frame in sorted(counts) for number in (frame, counts[frame])]
-
-
-def all_but(free):
-    return {frame: 3 for frame in range(256) if frame not in free}
 
 
 # The entries of the page at NUMBERS, the first one given to the root 9.
